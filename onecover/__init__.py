@@ -1,0 +1,1 @@
+"""One shape that covers the plane."""
