@@ -1,13 +1,17 @@
-"""One shape of squares, its edge, and the cuts of the edge by which copies of it cover the plane."""
+"""One shape of squares, its edge, and the cuts and the grids by which copies of it cover the plane."""
 
 MOST_SQUARES = 12
 LAST_PLACE = 11
+LAST_ASKED_PLACE = 1000
 
 SHAPE = 0
 EDGE = 1
 CUT = 2
 CUTS = 3
 MOVES = 4
+GRIDS = 5
+ON = 6
+GRIDOF = 7
 
 
 # Step k of an edge leads from a corner to neighbour k of that corner, so the order is that of the steps' numbers.
@@ -133,6 +137,49 @@ def move_along(steps):
     return [steps.count(0) - steps.count(2), steps.count(1) - steps.count(3)]
 
 
+def moves_of(edge, i, a, b):
+    parts = parts_of(edge, i, a, b)
+    return [move_along(parts[0] + parts[1]), move_along(parts[1] + parts[2])]
+
+
+# Of all places to which the grid's moves lead from one, just one lies in the columns 0 to a - 1 and rows 0 to d - 1.
+def home_in(grid, place):
+    a = grid[0]
+    b = grid[1]
+    d = grid[2]
+    return ((place[0] - place[1] // d * b) % a, place[1] % d)
+
+
+def homes_in(grid, squares):
+    return [home_in(grid, square) for square in squares]
+
+
+# The grid has as many homes as the shape has squares, so different homes are all homes.
+def grids_of(squares):
+    grids = []
+    for a in range(1, len(squares) + 1):
+        if len(squares) % a == 0:
+            for b in range(a):
+                grid = [a, b, len(squares) // a]
+                if len(set(homes_in(grid, squares))) == len(squares):
+                    grids.append(grid)
+    return grids
+
+
+# Taking one move from the other, however often, leaves all that can be made of the two as it is.
+def grid_by(first, second):
+    slanted = first
+    level = second
+    while level[1] != 0:
+        often = slanted[1] // level[1]
+        rest = [slanted[0] - often * level[0], slanted[1] - often * level[1]]
+        slanted = level
+        level = rest
+    if slanted[1] < 0:
+        slanted = [-slanted[0], -slanted[1]]
+    return [abs(level[0]), slanted[0] % abs(level[0]), slanted[1]]
+
+
 def answer_shape(numbers):
     refusal = shape_refusal(numbers)
     if refusal < 0:
@@ -147,19 +194,43 @@ def answer_cut(edge):
     return cuts[0]
 
 
-def answer_cuts(edge):
-    cuts = cuts_of(edge)
-    answer = [len(cuts)]
-    for cut in cuts:
-        answer.extend(cut)
+# The answer of cuts and of grids: how many, then the numbers of each.
+def counted(rows):
+    answer = [len(rows)]
+    for row in rows:
+        answer.extend(row)
     return answer
 
 
 def answer_moves(edge, i, a, b):
     if not is_cut(edge, i, a, b):
         return [-3]
-    parts = parts_of(edge, i, a, b)
-    return move_along(parts[0] + parts[1]) + move_along(parts[1] + parts[2])
+    moves = moves_of(edge, i, a, b)
+    return moves[0] + moves[1]
+
+
+def answer_on(squares, n, x, y):
+    if x > LAST_ASKED_PLACE or y > LAST_ASKED_PLACE:
+        return [-1]
+    grids = grids_of(squares)
+    if n >= len(grids):
+        return [-2]
+    number = homes_in(grids[n], squares).index(home_in(grids[n], (x, y)))
+    return [number, x - squares[number][0], y - squares[number][1]]
+
+
+# A cut's moves always make a grid by which the shape covers, so its grid is among those of the shape.
+def answer_gridof(squares, i, a, b):
+    edge = edge_of(squares)
+    if not is_cut(edge, i, a, b):
+        return [-3]
+    moves = moves_of(edge, i, a, b)
+    return [grids_of(squares).index(grid_by(moves[0], moves[1]))]
+
+
+# Where copies cover the plane by any moves at all, the edge has a cut (Beauquier and Nivat).
+def answer_tiles(edge):
+    return [1 if len(cuts_of(edge)) > 0 else 0]
 
 
 def answer_to(call, squares):
@@ -171,16 +242,22 @@ def answer_to(call, squares):
     if call[0] == CUT:
         return answer_cut(edge)
     if call[0] == CUTS:
-        return answer_cuts(edge)
+        return counted(cuts_of(edge))
     if call[0] == MOVES:
         return answer_moves(edge, call[1], call[2], call[3])
-    raise NotImplementedError("only the calls shape, edge, cut, cuts and moves are there")
+    if call[0] == GRIDS:
+        return counted(grids_of(squares))
+    if call[0] == ON:
+        return answer_on(squares, call[1], call[2], call[3])
+    if call[0] == GRIDOF:
+        return answer_gridof(squares, call[1], call[2], call[3])
+    return answer_tiles(edge)
 
 
 def call_length(calls, start):
     if calls[start] == SHAPE:
         return 2 + calls[start + 1]
-    if calls[start] == MOVES:
+    if calls[start] in (MOVES, ON, GRIDOF):
         return 4
     return 1
 

@@ -11,6 +11,8 @@ RING = [(x, y) for x in range(3) for y in range(3) if (x, y) != (1, 1)]
 EDGE = [1]
 CUT = [2]
 CUTS = [3]
+GRIDS = [5]
+TILES = [8]
 TOP = 4294967295
 
 
@@ -24,6 +26,14 @@ def shape(squares):
 
 def moves(i, a, b):
     return [4, i, a, b]
+
+
+def on(n, x, y):
+    return [6, n, x, y]
+
+
+def gridof(i, a, b):
+    return [7, i, a, b]
 
 
 def split(told):
@@ -59,6 +69,18 @@ def cuts_of(squares):
     return triples(ask(shape(squares), CUTS)[1])
 
 
+def grids_of(squares):
+    return triples(ask(shape(squares), GRIDS)[1])
+
+
+def next_seed(seed):
+    return (seed * 1103515245 + 12345) % 2147483648
+
+
+def picked(seed, choices):
+    return choices[seed // 65536 % len(choices)]
+
+
 def window_shapes(width, height):
     """Each choice of squares of the window but the empty one, joined or not."""
     places = [(x, y) for x in range(width) for y in range(height)]
@@ -80,10 +102,43 @@ def large_shapes(most):
     for number in range(most):
         squares = ((5, 5),)
         while len(squares) < 8 + number % 5:
-            seed = (seed * 1103515245 + 12345) % 2147483648
-            places = sorted(place for place in beside(squares) if 0 <= min(place) and max(place) <= 11)
-            squares += (places[seed // 65536 % len(places)],)
+            seed = next_seed(seed)
+            squares += (picked(seed, room_beside(squares)),)
         yield squares
+
+
+def covering_shapes(most):
+    """Shapes of 1 to 12 squares that cover by the grid told with them, the same at each run."""
+    seed = 1
+    for number in range(most):
+        count = 1 + number % 12
+        seed = next_seed(seed)
+        a = picked(seed, [a for a in range(1, count + 1) if count % a == 0])
+        seed = next_seed(seed)
+        grid = (a, picked(seed, range(a)), count // a)
+        squares = ((number % 7, number % 11),)
+        places = [True]
+        while len(squares) < count and places:
+            places = [place for place in room_beside(squares) if not any(is_move(grid, place, old) for old in squares)]
+            seed = next_seed(seed)
+            if places:
+                squares += (picked(seed, places),)
+        if len(squares) == count:
+            yield squares, grid
+
+
+def room_beside(squares):
+    return sorted(place for place in beside(squares) if 0 <= min(place) and max(place) <= 11)
+
+
+def taken_shapes(most, large):
+    """Shapes that are taken: all of up to most squares, and some of 8 to 12."""
+    for squares in grown_shapes(most):
+        if plain_shape_answer(squares) > 0:
+            yield squares
+    for squares in large_shapes(large):
+        if plain_shape_answer(squares) > 0:
+            yield squares
 
 
 def beside(squares):
@@ -163,6 +218,31 @@ def end_of(steps):
     return [x, y]
 
 
+def is_move(grid, start, end):
+    """Whether one of the grid's moves leads from the one square to the other."""
+    a, b, d = grid
+    right, up = end[0] - start[0], end[1] - start[1]
+    return up % d == 0 and (right - up // d * b) % a == 0
+
+
+def plain_grids(squares):
+    """Each a, b, d by which each square of the plane is covered by just one copy; d is tried apart from a."""
+    count = len(squares)
+    found = []
+    for a in range(1, count + 2):
+        for b in range(a):
+            for d in range(1, count + 2):
+                if covers_by_grid(squares, (a, b, d)):
+                    found.append((a, b, d))
+    return found
+
+
+def covers_by_grid(squares, grid):
+    """By counting the copies on each square of a block that the grid's moves lead over the whole plane."""
+    return all(sum(is_move(grid, square, (x, y)) for square in squares) == 1
+               for x in range(grid[0]) for y in range(grid[2]))
+
+
 def covers_by_some_grid(squares):
     """Whether the squares fall on different places of some grid that has as many places as there are squares."""
     count = len(squares)
@@ -173,6 +253,40 @@ def covers_by_some_grid(squares):
                 if len({((x - y // d * b) % a, y % d) for x, y in squares}) == count:
                     return True
     return False
+
+
+def laid_copies(squares, grid, left, low, size):
+    """Copy by copy laid down by the grid: of each square of a window the shape's squares and moves that come there."""
+    a, b, d = grid
+    found = {(left + h, low + v): [] for h in range(size) for v in range(size)}
+    for rows in range(low // d - 12, (low + size) // d + 1):
+        for times in range((left - 12 - rows * b) // a, (left + size - rows * b) // a + 1):
+            right, up = times * a + rows * b, rows * d
+            for number, (x, y) in enumerate(squares):
+                if (x + right, y + up) in found:
+                    found[x + right, y + up].append([number, right, up])
+    return found
+
+
+def can_be_surrounded(squares):
+    """Whether copies, by whatever moves, cover all that lies round the shape: a search without edges and grids.
+
+    A shape that covers the plane can be surrounded; of small shapes those that can be, cover it.
+    """
+    around = {(x + h, y + v) for x, y in squares for h in (-1, 0, 1) for v in (-1, 0, 1)}
+
+    def copies_on(place, taken):
+        copies = [set(moved(squares, place[0] - x, place[1] - y)) for x, y in squares]
+        return [copy for copy in copies if not copy & taken]
+
+    def search(taken):
+        left = sorted(around - taken)
+        if not left:
+            return True
+        fewest = min((copies_on(place, taken) for place in left), key=len)
+        return any(search(taken | copy) for copy in fewest)
+
+    return search(set(squares))
 
 
 def covers_by_moves(squares, four):
@@ -187,3 +301,13 @@ def covers_by_moves(squares, four):
             if (h, v) != (0, 0) and (h * high - v * far) % size == 0 and (v * right - h * up) % size == 0:
                 return False
     return True
+
+
+def makes_same_moves(grid, four):
+    """Whether what is made of the two moves is just what the grid makes: each side's moves are made by the other."""
+    a, b, d = grid
+    right, up, far, high = four
+    size = right * high - up * far
+    if not is_move(grid, (0, 0), (right, up)) or not is_move(grid, (0, 0), (far, high)) or size == 0:
+        return False
+    return all((h * high - v * far) % size == 0 and (v * right - h * up) % size == 0 for h, v in ((a, 0), (b, d)))
